@@ -1,4 +1,7 @@
-"""The package's files keep to the part of Python that they may use; what a machine can see of it."""
+"""The package's files keep to LANGUAGE.md: a check of a part of its rules.
+
+Not looked at: L9, L11, L13, L19, L21 to L24, L26, L28, and of the others what a walk over the tree shows only with effort.
+"""
 
 import ast
 import builtins
