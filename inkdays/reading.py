@@ -106,11 +106,14 @@ def some_form_allows(forms_in_parts, ways, text):
     return False
 
 
-def own_days(forms, text, span):
-    forms_in_parts = parts_of_forms(forms)
+def days_of_text(forms_in_parts, text, span):
     check_text(text)
     days = []
     for day in range(span.length):
         if some_form_allows(forms_in_parts, ways_of_day(span.first + day), text):
             days.append(day)
     return days
+
+
+def own_days(forms, text, span):
+    return days_of_text(parts_of_forms(forms), text, span)
